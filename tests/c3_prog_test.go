@@ -125,15 +125,19 @@ func wantSize(p []impl.Comp, t impl.Tmpl) int {
 	return many
 }
 
-// progMaker makes random valid templates of a component.
+// progMaker makes random valid templates of a component; those of a lively one draw more.
 type progMaker struct {
-	r  *rand.Rand
-	p  []impl.Comp
-	at int
+	r      *rand.Rand
+	p      []impl.Comp
+	at     int
+	lively bool
 }
 
 func (m progMaker) form(turns int) []impl.Step {
 	c := m.p[m.at]
+	if m.lively {
+		return livelyForm(m.r, c.Props, len(c.States), turns)
+	}
 	return randomForm(m.r, 1+m.r.IntN(9), c.Props, len(c.States), turns)
 }
 
@@ -217,7 +221,7 @@ func randomProg(r *rand.Rand) []impl.Comp {
 	}
 	p[0].Props = 0
 	for at := range p {
-		m := progMaker{r, p, at}
+		m := progMaker{r: r, p: p, at: at}
 		p[at].Acts = m.acts()
 		p[at].Body = m.tmpl(1, 0)
 	}
