@@ -585,6 +585,11 @@ func TestPatchedByWayOfTreesThatAreNotValid(t *testing.T) {
 	deep := impl.Edit{Kind: impl.EditMake, Way: []int{0}, Tree: nested(24, elem(0, -1))}
 	checkUnpatched(t, read(from), deep)
 	checkPatched(t, from, "(t0 (t1 k1 'x') 'b')", deep, impl.Edit{Kind: impl.EditAll, Way: []int{0, 0}, Tree: word("x")})
+	// A text takes nothing that an element takes, also if it goes again.
+	for _, two := range [][2]int{{impl.EditMake, impl.EditGone}, {impl.EditProp, impl.EditDrop}, {impl.EditMake, impl.EditAll}, {impl.EditProp, impl.EditAll}} {
+		first, second := impl.Edit{Kind: two[0], Way: []int{1}, Tree: word("x")}, impl.Edit{Kind: two[1], Way: []int{1}, Tree: word("x")}
+		checkUnpatched(t, read(from), first, second)
+	}
 	// But each tree that is made must be valid, also if it goes again.
 	for _, bad := range append(invalidTrees(), impl.Tree{Tag: 9}) {
 		checkUnpatched(t, read(from), impl.Edit{Kind: impl.EditMake, Tree: bad}, impl.Edit{Kind: impl.EditGone})
