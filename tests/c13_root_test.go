@@ -34,6 +34,11 @@ func play(p []impl.Comp, list []impl.Turn) *player {
 	y.root.Drafts = wantDrafts(p, nil)
 	y.root.Line.Base = cellsOf(y.root.Drafts)
 	y.shown = append(y.shown, y.root.Drafts)
+	y.take(list)
+	return y
+}
+
+func (y *player) take(list []impl.Turn) {
 	for _, x := range list {
 		switch x.Kind {
 		case impl.TurnPost:
@@ -46,7 +51,6 @@ func play(p []impl.Comp, list []impl.Turn) *player {
 			y.flush()
 		}
 	}
-	return y
 }
 
 func (y *player) event(kind, lane int) {

@@ -7,6 +7,7 @@ import (
 	"slices"
 	"strconv"
 	"strings"
+	"sync"
 	"testing"
 
 	"loop.example/drawnanew/impl"
@@ -134,8 +135,10 @@ func randomTree(r *rand.Rand, parts, rows int) impl.Tree {
 	return t
 }
 
+var allValues = sync.OnceValue(validValues)
+
 func randomValue(r *rand.Rand) impl.Value {
-	all := validValues()
+	all := allValues()
 	return all[r.IntN(len(all))]
 }
 

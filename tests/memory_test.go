@@ -1,9 +1,17 @@
 package tests
 
 import (
+	"os"
 	"reflect"
+	"runtime/debug"
 	"testing"
 )
+
+// The tests make much that is needed once: it is collected less often than by default, which takes half of their time.
+func TestMain(m *testing.M) {
+	debug.SetGCPercent(500)
+	os.Exit(m.Run())
+}
 
 // memory is what a slice has, with its spare capacity.
 type memory struct {
@@ -36,16 +44,20 @@ func memoriesOf(v reflect.Value) []memory {
 func checkUnshared(t *testing.T, result any, args ...any) {
 	t.Helper()
 	own := memoriesOf(reflect.ValueOf(result))
+	ofArgs := make([][]memory, len(args))
+	for i, arg := range args {
+		ofArgs[i] = memoriesOf(reflect.ValueOf(arg))
+	}
 	for i, m := range own {
 		for _, o := range own[:i] {
 			if m.meets(o) {
 				t.Errorf("a %s and a %s of the result %v share memory", m.of, o.of, result)
 			}
 		}
-		for _, arg := range args {
-			for _, o := range memoriesOf(reflect.ValueOf(arg)) {
+		for n, arg := range ofArgs {
+			for _, o := range arg {
 				if m.meets(o) {
-					t.Errorf("a %s of the result %v shares memory with a %s of the argument %v", m.of, result, o.of, arg)
+					t.Errorf("a %s of the result %v shares memory with a %s of the argument %v", m.of, result, o.of, args[n])
 				}
 			}
 		}
